@@ -1,0 +1,1 @@
+"""Farhandles: a count at home, handles far away."""

@@ -1,6 +1,6 @@
 """Walks and runs: rules done one after the other, beginning with just one of a kind."""
 
-from farhandles.books import demand_kind, is_among
+from farhandles.books import demand_kind
 from farhandles.errors import NotDone
 from farhandles.ways import alive, ending
 
@@ -49,38 +49,58 @@ def changes_of(book):
 
 
 def moves_of(book):
-    """The tuples (kind, outcome) of the rules under their names."""
+    """What can be done, under its name: the tuples (kind, outcome) of the rules."""
     return {name: (kind, outcome) for name, kind, outcome, _ in book.rules}
 
 
 def can_be_done(moves, many, name):
-    """Whether any value is the name of a rule of which the kind is there."""
-    return is_among(name, moves) and moves[name][0] in many
+    """Whether any value is the name of a move of which the kind is there."""
+    return is_move(name, moves) and moves[name][0] in many
 
 
-def do_rule(moves, many, name):
-    """Changes the numbers of the kinds that are there as the rule tells."""
+def is_move(value, moves):
+    """Whether any value is the name of a move: a string, that of a rule, or a tuple of strings, that of a fault."""
+    # A dict can't be asked for what has no hash, such as a list.
+    parts = value if isinstance(value, tuple) else (value,)
+    return all([isinstance(part, str) for part in parts]) and value in moves
+
+
+def do_move(moves, many, name):
+    """Changes the numbers of the kinds that are there as the move tells."""
     kind, outcome = moves[name]
+    take_one(many, kind)
+    for part in outcome:
+        put_one(many, part)
+
+
+def take_one(many, kind):
+    """One less of the kind is there."""
     many[kind] -= 1
     if many[kind] == 0:
         del many[kind]
-    for part in outcome:
-        many[part] = many.get(part, 0) + 1
+
+
+def put_one(many, kind):
+    """One more of the kind is there."""
+    many[kind] = many.get(kind, 0) + 1
 
 
 def stands_from(book, kind, walk, total):
     """The tuples (total, lot) of a walk from the kind, the changes added to the total."""
+    return stands_by(moves_of(book), changes_of(book), kind, walk, total)
+
+
+def stands_by(moves, changes, kind, walk, total):
+    """The tuples (total, lot) of any value as moves from the kind, the changes added to the total."""
     if not isinstance(walk, list):
         raise NotDone(0)
-    moves = moves_of(book)
-    changes = changes_of(book)
     many = {kind: 1}
     told = [(total, ((kind, 1),))]
     pairs = {}
     for number, name in enumerate(walk):
         if not can_be_done(moves, many, name):
             raise NotDone(number)
-        do_rule(moves, many, name)
+        do_move(moves, many, name)
         total += changes[name]
         # The lots of a long walk share their pairs, or they would fill the memory.
         told.append((total, tuple([pairs.setdefault(pair, pair) for pair in sorted(many.items())])))
@@ -96,7 +116,7 @@ def done_walk(book, kind, walk):
     for number, name in enumerate(walk):
         if not can_be_done(moves, many, name):
             raise NotDone(number)
-        do_rule(moves, many, name)
+        do_move(moves, many, name)
     return many
 
 

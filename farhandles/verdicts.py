@@ -69,7 +69,7 @@ def marked_run(book):
     run = early_run_of(book)
     if run is not None:
         return ("early", run)
-    run = walk_within(end_trees(book, changes_of(book), book.start), most_if_kept(book))
+    run = kept_run_of(book)
     return None if run is None else ("kept", run)
 
 
@@ -84,33 +84,43 @@ def early_run_of(book):
     """An early run, None if there is none."""
     keeping = keeping_trees(book)
     run = None if keeping is None else walk_within(keeping, most_if_early(book))
-    if run is None:
-        return None
+    return None if run is None else until_early(book, run)
+
+
+def until_early(book, run):
+    """The first rules of a run that leaves something alive behind each of them, until its count is nought or less."""
     changes = changes_of(book)
     count = book.amount
-    # Such a run leaves something alive behind each of its rules, so it is early as soon as the count is.
     for number, name in enumerate(run):
         if count <= 0:
             return run[:number]
-        count += changes[name]
+        # A fault is no rule and changes nothing.
+        count += changes.get(name, 0)
     return run
 
 
-def keeping_trees(book):
-    """The trees of all runs that leave something alive, None if the start isn't alive.
+def kept_run_of(book):
+    """A kept run, None if there is none."""
+    return walk_within(end_trees(book, changes_of(book), book.start), most_if_kept(book))
 
-    Their nodes are tuples (kind, whether something alive has to be left of it).
-    """
-    living = alive(book)
-    if book.start not in living:
+
+def keeping_trees(book):
+    """The trees of all runs that leave something alive, None if the start isn't alive."""
+    if book.start not in alive(book):
         return None
+    return Trees(keeping_rules(book), (book.start, True), True)
+
+
+def keeping_rules(book):
+    """The rules for nodes (kind, whether something alive has to be left of it)."""
+    living = alive(book)
     rules = []
     for name, kind, outcome, change in book.rules:
         rules.append((name, (kind, False), tuple([(part, False) for part in outcome]), change))
         for place in living_places(outcome, living):
             marked = tuple([(part, at == place) for at, part in enumerate(outcome)])
             rules.append((name, (kind, True), marked, change))
-    return Trees(rules, (book.start, True), True)
+    return rules
 
 
 def living_places(outcome, living):

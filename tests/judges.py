@@ -1,5 +1,6 @@
 """What DOC.md says of walks, tables and papers, told once more and otherwise than the program tells it."""
 
+import itertools
 from collections import Counter
 
 from tests.samples import lot_behind
@@ -228,3 +229,149 @@ def verdict(book):
             return "early"
     most = most_at_end(book, changes_of(book), book.start)
     return "kept" if most is None or most + book.amount >= 1 else "right"
+
+
+def weights_hold(book, untold, value):
+    if not is_table(book, value) or set(value) != set(book.kinds) or min(value.values()) < 0:
+        return False
+    if any(value[kind] == 0 for kind in living(book)):
+        return False
+    return all(
+        value[kind] == together(value, Counter(outcome))
+        for name, kind, outcome, _ in book.rules if name in untold)
+
+
+def bars_hold(book, untold, value):
+    if type(value) is not dict or set(value) != set(untold) or any(type(worth) is not int for worth in value.values()):
+        return False
+    total = Counter()
+    for name, kind, outcome, _ in book.rules:
+        if name in untold:
+            total[kind] += value[name]
+            for part in outcome:
+                total[part] -= value[name]
+    return min(total[kind] for kind in book.kinds) >= 0 and any(total[kind] > 0 for kind in living(book))
+
+
+def shares_within(places, left):
+    """All tuples of shares that together are at most what is left."""
+    return [shares for shares in itertools.product(range(left + 1), repeat=places) if sum(shares) <= left]
+
+
+def is_store_table(book, most, value):
+    if type(value) is not dict or any(type(worth) is not int for worth in value.values()):
+        return False
+    return all(
+        type(key) is tuple and len(key) == 2 and is_kind(book, key[0]) and type(key[1]) is int and key[1] in range(most + 1)
+        for key in value)
+
+
+def beside_demands(book, letters, kind, left):
+    """What the number of a kind with left is to be at most: a change, and keys of the numbers beside."""
+    for _, source, outcome, change in book.rules:
+        if source == kind:
+            for shares in shares_within(len(outcome), left):
+                yield change, list(zip(outcome, shares))
+    if kind in letters["twice"]:
+        for one, other in shares_within(2, left - 1):
+            yield 0, [(kind, one), (kind, other)]
+
+
+def alive_demands(book, letters, kind, left):
+    """The same in "alive": a change, the key that stays alive, the keys beside it."""
+    alive = living(book)
+    for _, source, outcome, change in book.rules:
+        if source == kind:
+            for shares in shares_within(len(outcome), left):
+                keys = list(zip(outcome, shares))
+                for at, key in enumerate(keys):
+                    if key[0] in alive:
+                        yield change, key, keys[:at] + keys[at + 1:]
+    if kind in letters["twice"]:
+        for one, other in shares_within(2, left - 1):
+            yield 0, (kind, one), [(kind, other)]
+
+
+def never_early_holds(book, letters, most, value):
+    if type(value) is not dict or sorted(value, key=str) != ["alive", "beside"]:
+        return False
+    alive, beside = value["alive"], value["beside"]
+    for table in (alive, beside):
+        if not is_store_table(book, most, table) or any(number > 0 for number in table.values()):
+            return False
+    if {kind for kind, _ in alive} - living(book):
+        return False
+    if book.start in living(book) and alive.get((book.start, most), -book.amount) + book.amount < 1:
+        return False
+    for (kind, left), number in beside.items():
+        for change, keys in beside_demands(book, letters, kind, left):
+            if set(keys) - set(beside) or number > change + sum(beside[key] for key in keys):
+                return False
+    for (kind, left), number in alive.items():
+        for change, key, others in alive_demands(book, letters, kind, left):
+            if key not in alive or set(others) - set(beside):
+                return False
+            if number > change + alive[key] + sum(beside[other] for other in others):
+                return False
+    return True
+
+
+def never_kept_holds(book, letters, most, value):
+    if not is_store_table(book, most, value):
+        return False
+    if value.get((book.start, most), 1 - book.amount) + book.amount > 0:
+        return False
+    for (kind, left), number in value.items():
+        if kind in letters["lost"] and left > 0 and number < 0:
+            return False
+        for _, source, outcome, change in book.rules:
+            if source == kind and ended(book) >= set(outcome):
+                for shares in shares_within(len(outcome), left):
+                    keys = list(zip(outcome, shares))
+                    if set(keys) - set(value) or number < change + sum(value[key] for key in keys):
+                        return False
+    return True
+
+
+def faulty_lots(book, run, letters, most):
+    """The counts and lots of a faulty run, and the number of the first thing that can't be done, None if all can."""
+    if type(run) is not list:
+        return [], 0
+    rules = {name: (source, outcome, change) for name, source, outcome, change in book.rules}
+    lot, count, told = Counter([book.start]), book.amount, []
+    told.append((count, lot))
+    for number, what in enumerate(run):
+        if isinstance(what, str) and what in rules and lot[rules[what][0]]:
+            source, outcome, change = rules[what]
+            lot = lot - Counter([source]) + Counter(outcome)
+            count += change
+        elif what in [(word, kind) for word in letters for kind in letters[word] if lot[kind]] and most > 0:
+            most -= 1
+            lot = lot + Counter([what[1]]) if what[0] == "twice" else lot - Counter([what[1]])
+        else:
+            return told, number
+        told.append((count, lot))
+    return told, None
+
+
+def faulty_marks(book, letters, most, longest, states):
+    """Which of "early", "kept" some faulty run of at most so many moves is, or a shorter one if there are too many."""
+    alive = living(book)
+    seen = newest = {(((book.start, 1),), book.amount, 0)}
+    for _ in range(longest):
+        fresh = set()
+        for lot, count, faults in newest:
+            for kind, many in lot:
+                moves = [(outcome, change, 0) for _, source, outcome, change in book.rules if source == kind]
+                if faults < most:
+                    moves += [((kind,) * 2, 0, 1)] * (kind in letters["twice"]) + [((), 0, 1)] * (kind in letters["lost"])
+                for outcome, change, cost in moves:
+                    after = Counter(dict(lot)) - Counter([kind]) + Counter(outcome)
+                    fresh.add((tuple(sorted(after.items())), count + change, faults + cost))
+        newest = fresh - seen
+        seen = seen | newest
+        if len(seen) > states:
+            break
+    early = any(count <= 0 and alive & {kind for kind, _ in lot} for lot, count, _ in seen)
+    kept = any(count >= 1 and not lot for lot, count, _ in seen)
+    return {word for word, told in (("early", early), ("kept", kept)) if told}

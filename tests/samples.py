@@ -20,6 +20,21 @@ def counting():
     return Book(["h", "l"], ["h"], rules, "h", 1)
 
 
+def book_of(rules, handles, start="h", count=1):
+    """A book of rules told as "name kind outcome change", one letter a kind."""
+    table = []
+    for text in rules:
+        name, kind, *outcome, change = text.split()
+        table.append((name, kind, tuple("".join(outcome)), int(change)))
+    kinds = sorted({kind for rule in table for kind in (rule[1], *rule[2])} | {start, *handles})
+    return Book(kinds, list(handles), table, start, count)
+
+
+def shared(count=2):
+    """The book of DOC.md that is right with the count 2."""
+    return book_of(["copy h gg 0", "drop h ll 0", "lose g l 0", "come l -1"], "hg", count=count)
+
+
 VALUES = [
     None, True, False, 0, 1, -1, 7, 10 ** 59, -10 ** 59, 10 ** 400,
     "", " ", "-", "0", "1", "zz", "H", "Zz", "h ", " h", "h\n", "\n", "\t", "h h", "h1", "h_", "h-l", "zzzzzzzzz",

@@ -7,10 +7,14 @@ import pathlib
 import unittest
 
 import farhandles.books
+import farhandles.faults
 import farhandles.runs
 import farhandles.sums
+import farhandles.texts
 import farhandles.verdicts
 import farhandles.ways
+import farhandles.weights
+import farhandles.worlds
 import farhandles.worths
 
 FOLDER = pathlib.Path(__file__).resolve().parent.parent / "farhandles"
@@ -39,6 +43,28 @@ SIGNATURES = {
     farhandles.worths: {
         "worths": "book", "two_walks": "book", "are_worths": "book value", "are_two_walks": "book value",
     },
+    farhandles.weights: {
+        "weights": "book untold", "bars": "book untold", "are_weights": "book untold value",
+        "are_bars": "book untold value", "weighed": "book numbers",
+    },
+    farhandles.faults: {
+        "faulty_stands": "book run letters most",
+        **{name: "book letters most" for name in ("never_early", "early_run", "never_kept", "kept_run")},
+        "is_never_early": "book letters most value", "is_never_kept": "book letters most value",
+    },
+    farhandles.worlds: {"World": "book", "replayed": "book events"},
+    farhandles.texts: {"format_book": "book", "read_book": "text"},
+}
+# The methods of the classes; None stands for a property.
+BODIES = {
+    farhandles.books.Book: {
+        **dict.fromkeys(("kinds", "handles", "rules", "start", "amount")), "rule_named": "name", "__eq__": "other",
+    },
+    farhandles.worlds.World: {
+        **dict.fromkeys(("book", "things", "history")), "make": "thing", "step": "thing rule holder",
+        "hand": "thing kind holder other", "undo": "", "fork": "", "count_of": "thing", "held": "thing holder",
+        **dict.fromkeys(("freed", "freed_early", "reached", "idle", "ring"), ""),
+    },
 }
 BUILTINS = set("""
     len range enumerate zip min max sum abs sorted reversed int str bool list tuple dict set isinstance ord repr any all
@@ -46,7 +72,7 @@ BUILTINS = set("""
 """.split())
 METHODS = set("""
     append clear copy count endswith extend find get index insert isalnum isalpha isdigit items join keys lower pop remove
-    replace reverse setdefault split startswith strip update upper values
+    replace reverse setdefault split startswith strip update upper values zfill
 """.split())
 # No list may be given to these but as a list: a generator would call the comparison of books.
 BARRED = (ast.GeneratorExp, ast.Set, ast.SetComp, ast.Lambda, ast.Pow, ast.Div, ast.Global, ast.AsyncFunctionDef)
@@ -88,7 +114,7 @@ class Form(unittest.TestCase):
     def test_no_two_files_import_each_other(self):
         imports = {path.stem: set() for path in TREES}
         for path, node in nodes_of(ast.ImportFrom):
-            imports[path.stem].add(node.module.split(".")[1])
+            imports[path.stem].update(node.module.split(".")[1:])
         for _ in imports:
             for name in imports:
                 imports[name] = imports[name].union(*(imports[other] for other in imports[name]))
@@ -145,9 +171,11 @@ class Form(unittest.TestCase):
                 self.assertEqual(thing.__module__, module.__name__)
                 self.assertEqual(list(inspect.signature(thing).parameters), parameters.split(), name)
 
-    def test_book_has_its_methods_in_its_own_body(self):
-        body = vars(farhandles.books.Book)
-        for name in ("kinds", "handles", "rules", "start", "amount"):
-            self.assertIsInstance(body[name], property)
-        self.assertEqual(list(inspect.signature(body["rule_named"]).parameters), ["self", "name"])
-        self.assertIn("__eq__", body)
+    def test_classes_have_their_methods_in_their_own_bodies(self):
+        for each, table in BODIES.items():
+            body = vars(each)
+            for name, parameters in table.items():
+                if parameters is None:
+                    self.assertIsInstance(body[name], property, name)
+                else:
+                    self.assertEqual(list(inspect.signature(body[name]).parameters), ["self", *parameters.split()], name)

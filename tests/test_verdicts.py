@@ -9,25 +9,10 @@ from farhandles.books import Book
 from farhandles.runs import is_run, mark
 from farhandles.verdicts import bad_run, decide, is_paper, is_right, paper
 from tests.judges import changes_of, ended, living, lot_of, mark_of, met, paper_holds, verdict
-from tests.samples import VALUES, counting, drawn_books, exchanged, ladder, some_books, turned
+from tests.samples import VALUES, book_of, counting, drawn_books, exchanged, ladder, shared, some_books, turned
 
 SMALL = drawn_books(600, 4, "verdicts")
 BOOKS = SMALL + drawn_books(100, 9, "verdicts") + some_books(100, 5, 6, 3)
-
-
-def book_of(rules, handles, start="h", count=1):
-    """A book of rules told as "name kind outcome change", one letter a kind."""
-    table = []
-    for text in rules:
-        name, kind, *outcome, change = text.split()
-        table.append((name, kind, tuple("".join(outcome)), int(change)))
-    kinds = sorted({kind for rule in table for kind in (rule[1], *rule[2])} | {start, *handles})
-    return Book(kinds, list(handles), table, start, count)
-
-
-def shared(count=2):
-    """The book of DOC.md that is right with the count 2."""
-    return book_of(["copy h gg 0", "drop h ll 0", "lose g l 0", "come l -1"], "hg", count=count)
 
 
 def marks_of_runs(book, most, states=4000):
